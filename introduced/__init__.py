@@ -1,0 +1,1 @@
+"""Introductions: two who have an acquaintance in common are introduced."""

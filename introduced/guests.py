@@ -1,0 +1,94 @@
+"""Guests, who knows whom among them, and who is introduced, round by round.
+
+Whom the guests know is kept as a list of bits, one number a guest: bit 0 stands
+for guest 0. No guest's own bit is ever set.
+"""
+
+MOST_GUESTS = 8
+MOST_PAIRS = 28
+MOST_ROUNDS = 5
+REFUSED = -22
+
+
+def after(n, k, l):
+    """How many pairs know one another behind k rounds, then whom each guest knows."""
+    if not is_as_told(n, l) or k < 0 or k > MOST_ROUNDS:
+        return [REFUSED]
+    known = acquaintances(n, l)
+    for turn in range(k):
+        known = behind_a_round(known)
+    return [how_many_pairs(known)] + known
+
+
+def is_as_told(n, pairs):
+    """Whether there are 1 to 8 guests, and the pairs are theirs."""
+    if n < 1 or n > MOST_GUESTS:
+        return False
+    # Told pairs are counted with their repeats, so the length alone decides.
+    if len(pairs) % 2 != 0 or len(pairs) > 2 * MOST_PAIRS:
+        return False
+    for place in range(0, len(pairs), 2):
+        if not is_a_pair(n, pairs[place], pairs[place + 1]):
+            return False
+    return True
+
+
+def is_a_pair(n, guest, other):
+    """Whether the two are different ones of n guests."""
+    return is_a_guest(n, guest) and is_a_guest(n, other) and guest != other
+
+
+def is_a_guest(n, guest):
+    """Whether there is such a guest among n."""
+    return guest >= 0 and guest < n
+
+
+def acquaintances(n, pairs):
+    """Whom each of n guests knows by the pairs told."""
+    known = [0] * n
+    for place in range(0, len(pairs), 2):
+        guest = pairs[place]
+        other = pairs[place + 1]
+        known[guest] = known[guest] | (1 << other)
+        known[other] = known[other] | (1 << guest)
+    return known
+
+
+def behind_a_round(known):
+    """Whom each guest knows when all who can be have been introduced, at once."""
+    # Built apart, so that nobody introduced in this round counts as an acquaintance in it.
+    later = []
+    for guest in range(len(known)):
+        later.append(known[guest] | introduced_to(known, guest))
+    return later
+
+
+def introduced_to(known, guest):
+    """All to whom the guest can be introduced, as bits."""
+    bits = 0
+    for other in range(len(known)):
+        if can_be_introduced(known, guest, other):
+            bits = bits | (1 << other)
+    return bits
+
+
+def can_be_introduced(known, guest, other):
+    """Whether the two don't know one another, and have somebody in common."""
+    if guest == other or know_one_another(known, guest, other):
+        return False
+    return (known[guest] & known[other]) != 0
+
+
+def know_one_another(known, guest, other):
+    """Whether the two are acquainted."""
+    return ((known[guest] >> other) & 1) == 1
+
+
+def how_many_pairs(known):
+    """How many pairs know one another, each of them once."""
+    number = 0
+    for guest in range(len(known)):
+        for other in range(guest):
+            if know_one_another(known, guest, other):
+                number = number + 1
+    return number
