@@ -20,6 +20,14 @@ def after(n, k, l):
     return [how_many_pairs(known)] + known
 
 
+def rounds(n, l):
+    """Behind how many rounds nobody can be introduced, how many groups, how many introductions."""
+    if not is_as_told(n, l):
+        return [REFUSED]
+    known = acquaintances(n, l)
+    return [how_many_rounds(known), how_many_groups(known), len(one_by_one(known))]
+
+
 def is_as_told(n, pairs):
     """Whether there are 1 to 8 guests, and the pairs are theirs."""
     if n < 1 or n > MOST_GUESTS:
@@ -47,11 +55,14 @@ def acquaintances(n, pairs):
     """Whom each of n guests knows by the pairs told."""
     known = [0] * n
     for place in range(0, len(pairs), 2):
-        guest = pairs[place]
-        other = pairs[place + 1]
-        known[guest] = known[guest] | (1 << other)
-        known[other] = known[other] | (1 << guest)
+        acquaint(known, pairs[place], pairs[place + 1])
     return known
+
+
+def acquaint(known, guest, other):
+    """Let the two know one another from now on."""
+    known[guest] = known[guest] | (1 << other)
+    known[other] = known[other] | (1 << guest)
 
 
 def behind_a_round(known):
@@ -79,9 +90,23 @@ def can_be_introduced(known, guest, other):
     return (known[guest] & known[other]) != 0
 
 
+def first_two(known):
+    """The first two who can be introduced, the lesser first; () if nobody can be."""
+    for guest in range(len(known)):
+        for other in range(guest + 1, len(known)):
+            if can_be_introduced(known, guest, other):
+                return (guest, other)
+    return ()
+
+
 def know_one_another(known, guest, other):
     """Whether the two are acquainted."""
-    return ((known[guest] >> other) & 1) == 1
+    return is_among(known[guest], other)
+
+
+def is_among(bits, guest):
+    """Whether the guest is one of those in the bits."""
+    return ((bits >> guest) & 1) == 1
 
 
 def how_many_pairs(known):
@@ -92,3 +117,55 @@ def how_many_pairs(known):
             if know_one_another(known, guest, other):
                 number = number + 1
     return number
+
+
+def how_many_rounds(known):
+    """Behind how many rounds nobody can be introduced any more."""
+    number = 0
+    later = known
+    while first_two(later) != ():
+        later = behind_a_round(later)
+        number = number + 1
+    return number
+
+
+def one_by_one(known):
+    """Who is introduced, one by one, till nobody can be: of each two the lesser first."""
+    later = list(known)
+    introductions = []
+    two = first_two(later)
+    while two != ():
+        introductions.append(two)
+        acquaint(later, two[0], two[1])
+        two = first_two(later)
+    return introductions
+
+
+def how_many_groups(known):
+    """How many groups there are; a guest who knows nobody is one."""
+    grouped = 0
+    number = 0
+    for guest in range(len(known)):
+        if not is_among(grouped, guest):
+            grouped = grouped | group_of(known, guest)
+            number = number + 1
+    return number
+
+
+def group_of(known, guest):
+    """All to whom there are steps from the guest, himself too, as bits."""
+    bits = 1 << guest
+    wider = a_step_further(known, bits)
+    while wider != bits:
+        bits = wider
+        wider = a_step_further(known, bits)
+    return bits
+
+
+def a_step_further(known, bits):
+    """Those of the bits and all whom they know, as bits."""
+    wider = bits
+    for guest in range(len(known)):
+        if is_among(bits, guest):
+            wider = wider | known[guest]
+    return wider

@@ -1,4 +1,4 @@
-"""What the document's interface says of how after is called and what it leaves alone."""
+"""What the document's interface says of how the functions are called and what they leave alone."""
 
 import ast
 import contextlib
@@ -8,19 +8,42 @@ import pathlib
 import unittest
 
 import introduced.guests
-from introduced.guests import after
+from introduced.guests import after, rounds
+
+PARAMETERS = (
+    (after, ["n", "k", "l"]),
+    (rounds, ["n", "l"]),
+)
 
 CALLS = (
-    (1, 0, []),
-    (4, 1, [0, 1, 1, 2, 2, 3]),
-    (8, 5, [7, 6, 6, 7, 5, 4, 4, 3]),
-    (8, 5, [0, 1] * 28),
-    (8, 0, [0, 1] * 30),
-    (3, 6, [2, 1]),
-    (3, 1, [2, 1, 0]),
-    (3, 1, [2, 2]),
-    (0, 1, [9, 200]),
+    (after, 1, 0, []),
+    (after, 4, 1, [0, 1, 1, 2, 2, 3]),
+    (after, 8, 5, [7, 6, 6, 7, 5, 4, 4, 3]),
+    (after, 8, 5, [0, 1] * 28),
+    (after, 8, 0, [0, 1] * 30),
+    (after, 3, 6, [2, 1]),
+    (after, 3, 1, [2, 1, 0]),
+    (after, 3, 1, [2, 2]),
+    (after, 0, 1, [9, 200]),
+    (rounds, 1, []),
+    (rounds, 4, [0, 1, 1, 2, 2, 3]),
+    (rounds, 8, [7, 6, 6, 7, 5, 4, 4, 3]),
+    (rounds, 8, [0, 1] * 28),
+    (rounds, 8, [0, 1] * 30),
+    (rounds, 3, [2, 1, 0]),
+    (rounds, 3, [2, 2]),
+    (rounds, 0, [9, 200]),
 )
+
+
+def answer_to(call):
+    function, *arguments = call
+    return function(*arguments)
+
+
+def with_list(call, l):
+    """The same call, handing in l instead of its list."""
+    return (*call[:-1], l)
 
 
 def refuse_change(*args, **kwargs):
@@ -35,57 +58,61 @@ class Untouchable(list):
 
 
 class Interface(unittest.TestCase):
-    def test_its_arguments(self):
-        parameters = inspect.signature(after).parameters.values()
-        self.assertEqual([each.name for each in parameters], ["n", "k", "l"])
-        self.assertEqual([each.default for each in parameters], [inspect.Parameter.empty] * 3)
+    def test_the_arguments(self):
+        for function, names in PARAMETERS:
+            parameters = inspect.signature(function).parameters.values()
+            self.assertEqual([each.name for each in parameters], names)
+            self.assertEqual({each.default for each in parameters}, {inspect.Parameter.empty})
         self.assertEqual(after(n=3, k=1, l=[0, 1, 1, 2]), [3, 6, 5, 3])
+        self.assertEqual(rounds(n=3, l=[0, 1, 1, 2]), [1, 1, 1])
 
-    def test_it_stands_in_its_module(self):
-        self.assertEqual(after.__module__, "introduced.guests")
+    def test_the_functions_stand_in_their_module(self):
+        for function, _ in PARAMETERS:
+            self.assertEqual(function.__module__, "introduced.guests")
 
-    def test_it_gives_back_a_list_of_whole_numbers(self):
+    def test_a_list_of_whole_numbers_is_given_back(self):
         for call in CALLS:
-            answer = after(*call)
+            answer = answer_to(call)
             self.assertIs(type(answer), list)
             self.assertEqual({type(number) for number in answer}, {int})
 
-    def test_its_length(self):
-        for n, k, l in CALLS:
-            answer = after(n, k, l)
-            self.assertEqual(len(answer), 1 if answer[0] < 0 else n + 1)
+    def test_the_length_of_an_answer(self):
+        for call in CALLS:
+            answer = answer_to(call)
+            whole = call[1] + 1 if call[0] is after else 3
+            self.assertEqual(len(answer), 1 if answer[0] < 0 else whole)
 
 
 class LeftAlone(unittest.TestCase):
     def test_the_list_is_as_it_was(self):
-        for n, k, l in CALLS:
-            handed_in = list(l)
-            after(n, k, handed_in)
-            self.assertEqual(handed_in, l)
+        for call in CALLS:
+            handed_in = list(call[-1])
+            answer_to(with_list(call, handed_in))
+            self.assertEqual(handed_in, call[-1])
 
     def test_the_list_is_not_changed_for_a_while_either(self):
-        for n, k, l in CALLS:
-            self.assertEqual(after(n, k, Untouchable(l)), after(n, k, l))
+        for call in CALLS:
+            self.assertEqual(answer_to(with_list(call, Untouchable(call[-1]))), answer_to(call))
 
     def test_the_same_call_answers_the_same(self):
-        first = [after(*call) for call in CALLS]
-        self.assertEqual([after(*call) for call in CALLS], first)
-        self.assertEqual([after(*call) for call in reversed(CALLS)], first[::-1])
+        first = [answer_to(call) for call in CALLS]
+        self.assertEqual([answer_to(call) for call in CALLS], first)
+        self.assertEqual([answer_to(call) for call in reversed(CALLS)], first[::-1])
 
     def test_what_was_given_back_is_the_callers(self):
         for call in CALLS:
-            answer = after(*call)
+            answer = answer_to(call)
             as_it_was = list(answer)
             answer.append(99)
             answer[0] = 99
-            self.assertEqual(after(*call), as_it_was)
+            self.assertEqual(answer_to(call), as_it_was)
 
-    def test_it_prints_nothing(self):
+    def test_nothing_is_printed(self):
         for stream in (contextlib.redirect_stdout, contextlib.redirect_stderr):
             printed = io.StringIO()
             with stream(printed):
                 for call in CALLS:
-                    after(*call)
+                    answer_to(call)
             self.assertEqual(printed.getvalue(), "")
 
     def test_it_imports_and_reads_nothing(self):
