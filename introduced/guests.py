@@ -8,6 +8,8 @@ MOST_GUESTS = 8
 MOST_PAIRS = 28
 MOST_ROUNDS = 5
 REFUSED = -22
+NO_SUCH_GUEST = -2
+NO_STEPS = -33
 
 
 def after(n, k, l):
@@ -26,6 +28,18 @@ def rounds(n, l):
         return [REFUSED]
     known = acquaintances(n, l)
     return [how_many_rounds(known), how_many_groups(known), len(one_by_one(known))]
+
+
+def far(n, i, j, l):
+    """How many steps it is from i to j, then behind how many rounds they know one another."""
+    if not is_as_told(n, l):
+        return [REFUSED]
+    if not is_a_guest(n, i) or not is_a_guest(n, j):
+        return [NO_SUCH_GUEST]
+    known = acquaintances(n, l)
+    if not is_among(group_of(known, i), j):
+        return [NO_STEPS]
+    return [how_many_steps(known, i, j), how_many_rounds_till(known, i, j)]
 
 
 def is_as_told(n, pairs):
@@ -124,6 +138,26 @@ def how_many_rounds(known):
     number = 0
     later = known
     while first_two(later) != ():
+        later = behind_a_round(later)
+        number = number + 1
+    return number
+
+
+def how_many_steps(known, guest, other):
+    """How many steps it is between two of one group, 0 to oneself."""
+    number = 0
+    bits = 1 << guest
+    while not is_among(bits, other):
+        bits = a_step_further(known, bits)
+        number = number + 1
+    return number
+
+
+def how_many_rounds_till(known, guest, other):
+    """Behind how many rounds at least two of one group know one another, or are the same."""
+    number = 0
+    later = known
+    while guest != other and not know_one_another(later, guest, other):
         later = behind_a_round(later)
         number = number + 1
     return number

@@ -8,12 +8,20 @@ import pathlib
 import unittest
 
 import introduced.guests
-from introduced.guests import after, rounds
+from introduced.guests import after, far, rounds
 
 PARAMETERS = (
     (after, ["n", "k", "l"]),
     (rounds, ["n", "l"]),
+    (far, ["n", "i", "j", "l"]),
 )
+
+# How long an answer is that's not a refusal.
+LENGTHS = {
+    after: lambda call, answer: 1 + call[1],
+    rounds: lambda call, answer: 3,
+    far: lambda call, answer: 2,
+}
 
 CALLS = (
     (after, 1, 0, []),
@@ -33,6 +41,17 @@ CALLS = (
     (rounds, 3, [2, 1, 0]),
     (rounds, 3, [2, 2]),
     (rounds, 0, [9, 200]),
+    (far, 1, 0, 0, []),
+    (far, 4, 3, 0, [0, 1, 1, 2, 2, 3]),
+    (far, 8, 3, 5, [7, 6, 6, 7, 5, 4, 4, 3]),
+    (far, 8, 1, 0, [0, 1] * 28),
+    (far, 8, 1, 0, [0, 1] * 30),
+    (far, 3, 0, 1, [2, 1]),
+    (far, 3, 3, 1, [2, 1]),
+    (far, 3, 1, 4294967295, [2, 1]),
+    (far, 3, 1, 2, [2, 1, 0]),
+    (far, 3, 1, 2, [2, 2]),
+    (far, 0, 1, 2, [9, 200]),
 )
 
 
@@ -65,6 +84,7 @@ class Interface(unittest.TestCase):
             self.assertEqual({each.default for each in parameters}, {inspect.Parameter.empty})
         self.assertEqual(after(n=3, k=1, l=[0, 1, 1, 2]), [3, 6, 5, 3])
         self.assertEqual(rounds(n=3, l=[0, 1, 1, 2]), [1, 1, 1])
+        self.assertEqual(far(n=3, i=0, j=2, l=[0, 1, 1, 2]), [2, 1])
 
     def test_the_functions_stand_in_their_module(self):
         for function, _ in PARAMETERS:
@@ -79,7 +99,7 @@ class Interface(unittest.TestCase):
     def test_the_length_of_an_answer(self):
         for call in CALLS:
             answer = answer_to(call)
-            whole = call[1] + 1 if call[0] is after else 3
+            whole = LENGTHS[call[0]](call, answer)
             self.assertEqual(len(answer), 1 if answer[0] < 0 else whole)
 
 
