@@ -42,6 +42,17 @@ def far(n, i, j, l):
     return [how_many_steps(known, i, j), how_many_rounds_till(known, i, j)]
 
 
+def one(n, l):
+    """How many introductions it takes one by one, then the two of each, the lesser first."""
+    if not is_as_told(n, l):
+        return [REFUSED]
+    introductions = one_by_one(acquaintances(n, l))
+    answer = [len(introductions)]
+    for two in introductions:
+        answer.extend(two)
+    return answer
+
+
 def is_as_told(n, pairs):
     """Whether there are 1 to 8 guests, and the pairs are theirs."""
     if n < 1 or n > MOST_GUESTS:

@@ -64,6 +64,17 @@ def met_in_a_round(n, met):
     return met.union(who_can_be(n, met))
 
 
+def one_by_one(n, met, place=0):
+    """Who is introduced, one by one; place tells which two of those who can be, by default the first."""
+    introductions = []
+    can_be = who_can_be(n, met)
+    while can_be:
+        introductions.append(can_be[place])
+        met = met | {can_be[place]}
+        can_be = who_can_be(n, met)
+    return introductions
+
+
 def steps_from(n, met, start):
     """How many steps it is to each guest to whom there are any."""
     steps = {start: 0}

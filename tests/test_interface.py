@@ -8,12 +8,13 @@ import pathlib
 import unittest
 
 import introduced.guests
-from introduced.guests import after, far, rounds
+from introduced.guests import after, far, one, rounds
 
 PARAMETERS = (
     (after, ["n", "k", "l"]),
     (rounds, ["n", "l"]),
     (far, ["n", "i", "j", "l"]),
+    (one, ["n", "l"]),
 )
 
 # How long an answer is that's not a refusal.
@@ -21,6 +22,7 @@ LENGTHS = {
     after: lambda call, answer: 1 + call[1],
     rounds: lambda call, answer: 3,
     far: lambda call, answer: 2,
+    one: lambda call, answer: 1 + 2 * answer[0],
 }
 
 CALLS = (
@@ -52,6 +54,14 @@ CALLS = (
     (far, 3, 1, 2, [2, 1, 0]),
     (far, 3, 1, 2, [2, 2]),
     (far, 0, 1, 2, [9, 200]),
+    (one, 1, []),
+    (one, 4, [0, 1, 1, 2, 2, 3]),
+    (one, 8, [7, 6, 6, 7, 5, 4, 4, 3]),
+    (one, 8, [0, 1] * 28),
+    (one, 8, [0, 1] * 30),
+    (one, 3, [2, 1, 0]),
+    (one, 3, [2, 2]),
+    (one, 0, [9, 200]),
 )
 
 
@@ -85,6 +95,7 @@ class Interface(unittest.TestCase):
         self.assertEqual(after(n=3, k=1, l=[0, 1, 1, 2]), [3, 6, 5, 3])
         self.assertEqual(rounds(n=3, l=[0, 1, 1, 2]), [1, 1, 1])
         self.assertEqual(far(n=3, i=0, j=2, l=[0, 1, 1, 2]), [2, 1])
+        self.assertEqual(one(n=3, l=[0, 1, 1, 2]), [1, 0, 2])
 
     def test_the_functions_stand_in_their_module(self):
         for function, _ in PARAMETERS:

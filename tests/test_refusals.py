@@ -3,13 +3,14 @@
 import unittest
 
 from gatherings import LARGEST, REFUSED, everybody, row
-from introduced.guests import after, far, rounds
+from introduced.guests import after, far, one, rounds
 
 CALLS = {
     "after, 0 rounds": lambda n, l: after(n, 0, l),
     "after, 5 rounds": lambda n, l: after(n, 5, l),
     "rounds": rounds,
     "far": lambda n, l: far(n, 0, 0, l),
+    "one": one,
 }
 
 

@@ -1,12 +1,11 @@
 """Points 1 and 3 of the promises, as far as they speak of rounds; what it refuses is in test_refusals."""
 
-import functools
 import itertools
 import unittest
 
 from gatherings import (
-    everybody, groups_of, many_gatherings, met_by_bits, met_in_a_round, pairs_of, ring, row, steps_from,
-    who_can_be,
+    everybody, groups_of, many_gatherings, met_by_bits, met_in_a_round, one_by_one, pairs_of, ring, row,
+    steps_from, who_can_be,
 )
 from introduced.guests import after, rounds
 
@@ -16,24 +15,6 @@ def rounds_till_nobody_can_be(n, met):
         if not who_can_be(n, met):
             return number
         met = met_in_a_round(n, met)
-
-
-def one_by_one(n, met):
-    for number in itertools.count():
-        can_be = who_can_be(n, met)
-        if not can_be:
-            return number
-        met = met | {can_be[0]}
-
-
-@functools.cache
-def every_order(n, met):
-    """How many introductions it takes and who knows whom then, over all orders there are."""
-    ends = {
-        (number + 1, then)
-        for two in who_can_be(n, met) for number, then in every_order(n, met | {two})
-    }
-    return ends or {(0, met)}
 
 
 class OrdinaryInputs(unittest.TestCase):
@@ -71,7 +52,7 @@ class OrdinaryInputs(unittest.TestCase):
     def test_many_gatherings(self):
         for n, l in many_gatherings():
             met = pairs_of(l)
-            told = [rounds_till_nobody_can_be(n, met), len(groups_of(n, met)), one_by_one(n, met)]
+            told = [rounds_till_nobody_can_be(n, met), len(groups_of(n, met)), len(one_by_one(n, met))]
             self.assertEqual(rounds(n, l), told, (n, l))
 
 
@@ -97,12 +78,6 @@ class WhatHolds(unittest.TestCase):
             self.assertLessEqual(longest, 1 << number, (n, l))
             if number > 0:
                 self.assertGreater(longest, 1 << (number - 1), (n, l))
-
-    def test_in_every_order_it_is_as_many_introductions(self):
-        for n, l in many_gatherings():
-            if n <= 5:
-                then = met_by_bits(after(n, rounds(n, l)[0], l)[1:])
-                self.assertEqual(every_order(n, pairs_of(l)), {(rounds(n, l)[2], then)}, (n, l))
 
 
 class Corners(unittest.TestCase):
